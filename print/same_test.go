@@ -1,7 +1,10 @@
 package print_test
 
 import (
+	"math"
 	"reflect"
+	"strconv"
+	"strings"
 	"testing"
 
 	"joust/api"
@@ -17,9 +20,9 @@ unit ogre 4 1800 7 {
 }
 trap pit { play upon attack theirs: damage theirs 500; }`
 
-func read(t *testing.T) []api.Card {
+func read(t *testing.T, text string) []api.Card {
 	t.Helper()
-	l, f := parse.Pool(pool)
+	l, f := parse.Pool(text)
 	if f != (api.Fault{}) {
 		t.Fatalf("Pool = %v", f)
 	}
@@ -28,7 +31,7 @@ func read(t *testing.T) []api.Card {
 
 // P3.2: cards are the same as what is read from their text once more.
 func TestSame(t *testing.T) {
-	a, b := read(t), read(t)
+	a, b := read(t, pool), read(t, pool)
 	if !print.Same(a, b) || !print.Same(a, a) || !print.Same(b, a) {
 		t.Errorf("Same(%v, %v)", a, b)
 	}
@@ -68,21 +71,31 @@ func eachChange(v reflect.Value, path string, told func(path string)) {
 			set(" without any", reflect.Zero(v.Type()))
 		}
 	case reflect.String:
-		set("", reflect.ValueOf(v.String()+"x"))
+		for _, to := range []string{was.String() + "x", "", "a b", "7", strings.Repeat("w", api.MaxWord+1)} {
+			set(" = "+to, reflect.ValueOf(to))
+		}
 	case reflect.Bool:
 		set("", reflect.ValueOf(!v.Bool()))
 	case reflect.Int:
-		set(" more", reflect.ValueOf(int(v.Int()+1)))
-		set(" less", reflect.ValueOf(int(-v.Int()-1)))
+		n := int(v.Int())
+		for _, to := range []int{n + 1, -n - 1, n + 1<<32, -1, 0, 1, api.MaxNumber, api.MaxNumber + 1, math.MinInt, math.MaxInt} {
+			if to != n {
+				set(" = "+strconv.Itoa(to), reflect.ValueOf(to))
+			}
+		}
 	case reflect.Uint8:
-		set("", reflect.ValueOf(uint8(v.Uint()+1)))
-		set(" far off", reflect.ValueOf(uint8(v.Uint()+128)))
+		n := uint8(v.Uint())
+		for _, to := range []uint8{0, 1, 2, 3, 4, 5, 6, 7, 8, 9, 10, 11, 12, n + 1, n + 128, 255} {
+			if to != n {
+				set(" = "+strconv.Itoa(int(to)), reflect.ValueOf(to))
+			}
+		}
 	}
 }
 
 // P3.2: cards that differ in anything are not the same, on neither side.
 func TestNotTheSame(t *testing.T) {
-	a, b := read(t), read(t)
+	a, b := read(t, pool), read(t, pool)
 	count := 0
 	eachChange(reflect.ValueOf(&a).Elem(), "", func(path string) {
 		count++
