@@ -1,4 +1,5 @@
-package print
+// Package cards copies kinds of cards, and tells whether some are the same, for the layers that keep them.
+package cards
 
 import (
 	"slices"
@@ -6,6 +7,7 @@ import (
 	"joust/api"
 )
 
+// Same tells whether two lists hold the same cards, in all.
 func Same(a, b []api.Card) bool { return slices.EqualFunc(a, b, sameCard) }
 
 func sameCard(a, b api.Card) bool {
@@ -13,11 +15,11 @@ func sameCard(a, b api.Card) bool {
 }
 
 func sameEffect(a, b api.Effect) bool {
-	return a.Mode == b.Mode && a.Ev == b.Ev && a.Side == b.Side && a.Pay == b.Pay && a.Discard == b.Discard && a.Tribute == b.Tribute && a.Pick == b.Pick && a.Sel == b.Sel && sameExprs(a.Cond, b.Cond) && slices.EqualFunc(a.Steps, b.Steps, sameStep)
+	return a.Mode == b.Mode && a.Ev == b.Ev && a.Side == b.Side && a.Pay == b.Pay && a.Discard == b.Discard && a.Tribute == b.Tribute && a.Pick == b.Pick && a.Sel == b.Sel && SameExprs(a.Cond, b.Cond) && slices.EqualFunc(a.Steps, b.Steps, sameStep)
 }
 
 func sameStep(a, b api.Step) bool {
-	return a.Do == b.Do && a.Side == b.Side && a.All == b.All && a.Sel == b.Sel && sameExprs([]api.Expr{a.N}, []api.Expr{b.N})
+	return a.Do == b.Do && a.Side == b.Side && a.All == b.All && a.Sel == b.Sel && SameExprs([]api.Expr{a.N}, []api.Expr{b.N})
 }
 
 // lists are two lists that are held against each other, as long as each other, by where they begin.
@@ -26,8 +28,8 @@ type lists struct {
 	size int
 }
 
-// sameExprs doesn't call itself, and holds no two lists against each other twice: what is handed in may be deeper than calls may go, and a list may stand within itself.
-func sameExprs(a, b []api.Expr) bool {
+// SameExprs tells whether two lists hold the same expressions. It doesn't call itself, and holds no two lists against each other twice: what is handed in may be deeper than calls may go, and a list may stand within itself.
+func SameExprs(a, b []api.Expr) bool {
 	met := map[lists]struct{}{}
 	todo := [][2][]api.Expr{{a, b}}
 	for len(todo) > 0 {
