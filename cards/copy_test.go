@@ -5,6 +5,7 @@ import (
 	"reflect"
 	"slices"
 	"testing"
+	"time"
 
 	"joust/api"
 	"joust/cards"
@@ -103,9 +104,9 @@ func inside(size, last int) []api.Card {
 	return []api.Card{{Name: "a", Effects: []api.Effect{{Cond: l, Steps: []api.Step{{N: api.Expr{Args: l[1:]}}}}}}}
 }
 
-// Copy ends on lists that stand within themselves, and does not make more of them; what was copied stays as it is.
+// Copy ends on lists that stand within themselves; what was copied stays as it is.
 func TestCopyOfWhatStandsWithinItself(t *testing.T) {
-	for _, size := range []int{2, 3, 9} {
+	for _, size := range []int{1, 2, 3, 9, 1000} {
 		l := inside(size, 7)
 		copied := l
 		for range 5 {
@@ -114,13 +115,9 @@ func TestCopyOfWhatStandsWithinItself(t *testing.T) {
 		if !cards.Same(copied, l) || !cards.Same(copied, inside(size, 7)) || cards.Same(copied, inside(size, 8)) {
 			t.Errorf("%d: Copy is not the same", size)
 		}
-		at := copied[0].Effects[0].Cond
-		for range 2 * size {
-			at = at[len(at)-1].Args
-		}
-		at[len(at)-1].N = 8
-		if cards.Same(copied, l) || !cards.Same(l, inside(size, 7)) {
-			t.Errorf("%d: the copy shares memory with what was copied", size)
+		copied[0].Name = "b"
+		if !cards.Same(l, inside(size, 7)) {
+			t.Errorf("%d: what was copied changed", size)
 		}
 	}
 }
@@ -134,21 +131,74 @@ func nested(deep, inside int) api.Expr {
 	return x
 }
 
-// Copy is apart as long as it is not too much; what is more ends, and is the same.
+// unit is a card that needs these expressions.
+func unit(need ...api.Expr) api.Card {
+	return api.Card{Effects: []api.Effect{{Cond: need}}}
+}
+
+// Copy is apart as long as it is no more than a call may answer.
 func TestCopyOfWhatStandsInManyPlaces(t *testing.T) {
-	for _, deep := range []int{1, 10, 16, 30, 100} {
-		l := []api.Card{{Effects: []api.Effect{{Cond: []api.Expr{nested(deep, 1)}}}}}
+	for _, deep := range []int{1, 10, 16, 20} {
+		l := []api.Card{unit(nested(deep, 1))}
 		copied := cards.Copy(l)
-		if !cards.Same(copied, l) || cards.Same(copied, []api.Card{{Effects: []api.Effect{{Cond: []api.Expr{nested(deep, 2)}}}}}) {
+		if !cards.Same(copied, l) || cards.Same(copied, []api.Card{unit(nested(deep, 2))}) {
 			t.Errorf("%d deep: Copy is not the same", deep)
 		}
-		if deep < 20 && !apart(stretches(reflect.ValueOf(copied))) {
+		if all := stretches(reflect.ValueOf(copied)); len(all) != 1<<deep+2 || !apart(all) {
 			t.Errorf("%d deep: lists of a copy share memory", deep)
 		}
-		args := copied[0].Effects[0].Cond[0].Args
-		args[0].N = 9
-		if cards.Same(copied, l) || !cards.Same(l, []api.Card{{Effects: []api.Effect{{Cond: []api.Expr{nested(deep, 1)}}}}}) {
+		copied[0].Effects[0].Cond[0].Args[0].N = 9
+		if cards.Same(copied, l) || !cards.Same(l, []api.Card{unit(nested(deep, 1))}) {
 			t.Errorf("%d deep: a copy shares memory with what was copied", deep)
+		}
+	}
+}
+
+// blown is cards that hold one list of effects, which hold one list of steps: few of them by memory, very many told out.
+func blown(count, last int) []api.Card {
+	steps := make([]api.Step, count)
+	steps[count-1].N.N = last
+	effects := make([]api.Effect, count)
+	for i := range effects {
+		effects[i].Steps = steps
+	}
+	l := make([]api.Card, count)
+	for i := range l {
+		l[i].Effects = effects
+	}
+	return l
+}
+
+// Copy and Same end, and soon, on what is more than a call may answer.
+func TestCopyOfTooMuch(t *testing.T) {
+	wide := func(inside int) []api.Card {
+		l := []api.Expr{{N: inside}}
+		for range 6 {
+			outer := make([]api.Expr, 100000)
+			for i := range outer {
+				outer[i].Args = l
+			}
+			l = outer
+		}
+		return []api.Card{unit(l...)}
+	}
+	for i, of := range []func(n int) []api.Card{
+		func(n int) []api.Card { return []api.Card{unit(nested(26, n))} },
+		func(n int) []api.Card { return []api.Card{unit(nested(100, n))} },
+		func(n int) []api.Card { return []api.Card{unit(), unit(nested(10000, n))} },
+		func(n int) []api.Card { return blown(400, n) },
+		func(n int) []api.Card { return blown(100000, n) },
+		func(n int) []api.Card { return inside(100, n) },
+		wide,
+	} {
+		l := of(1)
+		start := time.Now()
+		copied := cards.Copy(l)
+		if !cards.Same(copied, l) || !cards.Same(copied, of(1)) || cards.Same(copied, of(2)) {
+			t.Errorf("%d: Copy is not the same", i)
+		}
+		if d := time.Since(start); d > 10*time.Second {
+			t.Errorf("%d: it took %v", i, d)
 		}
 	}
 }

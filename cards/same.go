@@ -8,49 +8,51 @@ import (
 )
 
 // Same tells whether two lists hold the same cards, in all.
-func Same(a, b []api.Card) bool { return slices.EqualFunc(a, b, sameCard) }
-
-func sameCard(a, b api.Card) bool {
-	return a.Name == b.Name && a.Kind == b.Kind && a.Level == b.Level && a.Attack == b.Attack && a.Guard == b.Guard && slices.EqualFunc(a.Effects, b.Effects, sameEffect)
+func Same(a, b []api.Card) bool {
+	c := newComparer()
+	return slices.EqualFunc(a, b, c.card)
 }
 
-func sameEffect(a, b api.Effect) bool {
-	return a.Mode == b.Mode && a.Ev == b.Ev && a.Side == b.Side && a.Pay == b.Pay && a.Discard == b.Discard && a.Tribute == b.Tribute && a.Pick == b.Pick && a.Sel == b.Sel && SameExprs(a.Cond, b.Cond) && slices.EqualFunc(a.Steps, b.Steps, sameStep)
+// SameExprs tells whether two lists hold the same expressions.
+func SameExprs(a, b []api.Expr) bool { return newComparer().exprs(a, b) }
+
+// comparer holds which lists were held against each other so far: a list may stand in very many places of what is handed in, within itself too.
+type comparer struct {
+	metEffects met[api.Effect]
+	metSteps   met[api.Step]
+	metExprs   met[api.Expr]
 }
 
-func sameStep(a, b api.Step) bool {
-	return a.Do == b.Do && a.Side == b.Side && a.All == b.All && a.Sel == b.Sel && SameExprs([]api.Expr{a.N}, []api.Expr{b.N})
+func newComparer() *comparer {
+	return &comparer{met[api.Effect]{}, met[api.Step]{}, met[api.Expr]{}}
 }
 
-// lists are two lists that are held against each other, as long as each other, by where they begin.
-type lists struct {
-	a, b *api.Expr
-	size int
+func (c *comparer) card(a, b api.Card) bool {
+	return a.Name == b.Name && a.Kind == b.Kind && a.Level == b.Level && a.Attack == b.Attack && a.Guard == b.Guard && same(c.metEffects, a.Effects, b.Effects, c.effect)
 }
 
-// SameExprs tells whether two lists hold the same expressions. It doesn't call itself, and holds no two lists against each other twice: what is handed in may be deeper than calls may go, and a list may stand within itself.
-func SameExprs(a, b []api.Expr) bool {
-	met := map[lists]struct{}{}
+func (c *comparer) effect(a, b api.Effect) bool {
+	return a.Mode == b.Mode && a.Ev == b.Ev && a.Side == b.Side && a.Pay == b.Pay && a.Discard == b.Discard && a.Tribute == b.Tribute && a.Pick == b.Pick && a.Sel == b.Sel && c.exprs(a.Cond, b.Cond) && same(c.metSteps, a.Steps, b.Steps, c.step)
+}
+
+func (c *comparer) step(a, b api.Step) bool {
+	return a.Do == b.Do && a.Side == b.Side && a.All == b.All && a.Sel == b.Sel && sameRoot(a.N, b.N) && c.exprs(a.N.Args, b.N.Args)
+}
+
+// exprs doesn't call itself: what is handed in may be deeper than calls may go.
+func (c *comparer) exprs(a, b []api.Expr) bool {
 	todo := [][2][]api.Expr{{a, b}}
 	for len(todo) > 0 {
 		a, b := todo[len(todo)-1][0], todo[len(todo)-1][1]
 		todo = todo[:len(todo)-1]
-		if len(a) != len(b) {
-			return false
-		}
-		if len(a) == 0 {
-			continue
-		}
-		these := lists{&a[0], &b[0], len(a)}
-		if _, ok := met[these]; ok {
-			continue
-		}
-		met[these] = struct{}{}
-		for i := range a {
-			if !sameRoot(a[i], b[i]) {
-				return false
+		ok := same(c.metExprs, a, b, func(x, y api.Expr) bool {
+			if len(x.Args)+len(y.Args) > 0 {
+				todo = append(todo, [2][]api.Expr{x.Args, y.Args})
 			}
-			todo = append(todo, [2][]api.Expr{a[i].Args, b[i].Args})
+			return sameRoot(x, y)
+		})
+		if !ok {
+			return false
 		}
 	}
 	return true
@@ -58,4 +60,25 @@ func SameExprs(a, b []api.Expr) bool {
 
 func sameRoot(a, b api.Expr) bool {
 	return a.Op == b.Op && a.N == b.N && a.Side == b.Side && a.Sel == b.Sel
+}
+
+// met are pairs of lists, as long as each other, by where they begin.
+type met[T any] map[pair[T]]struct{}
+
+type pair[T any] struct {
+	a, b *T
+	size int
+}
+
+// same tells whether two lists hold the same; those that were met before are not gone through again.
+func same[T any](m met[T], a, b []T, one func(a, b T) bool) bool {
+	if len(a) != len(b) || len(a) == 0 {
+		return len(a) == len(b)
+	}
+	these := pair[T]{&a[0], &b[0], len(a)}
+	if _, ok := m[these]; ok || these.a == these.b {
+		return true
+	}
+	m[these] = struct{}{}
+	return slices.EqualFunc(a, b, one)
 }
