@@ -172,7 +172,7 @@ func TestMay(t *testing.T) {
 	}
 }
 
-// P9.1: what a step that is not All is about: those picked that may still be, in that order, each once, however many, whatever Pick is.
+// P9.1: what a step that is not All is about: those picked that may still be, in that order, each once, however many; none, if none may be picked.
 func TestTargetsOfPicks(t *testing.T) {
 	x := spread(t)
 	for i, c := range []struct{ picks, want []int }{
@@ -180,16 +180,25 @@ func TestTargetsOfPicks(t *testing.T) {
 		{[]int{0}, nil}, {[]int{0, 4, 0}, []int{4}}, {[]int{4, 4, 4}, []int{4}}, {[]int{1, 4, 1, 2, 4}, []int{1, 4, 2}},
 		{[]int{5, 1, 7, 2, 11}, []int{1, 2}}, {[]int{-1, 13, math.MaxInt, math.MinInt}, nil}, {[]int{-1, 3, 13}, []int{3}},
 	} {
-		for _, n := range []int{-1, 0, 1, 2, 3, 5, math.MaxInt} {
+		for _, n := range []int{1, 2, 3, 5, math.MaxInt} {
 			l := aim.Targets(x, 0, 0, picking(n), api.Step{Sel: api.Sel{Side: api.Mine, Zone: api.Grave}}, c.picks)
 			if !slices.Equal(l, c.want) {
 				t.Errorf("%d: Targets(%v) = %v; not %v", i, c.picks, l, c.want)
+			}
+		}
+		for _, n := range []int{0, -1, math.MinInt} {
+			if l := aim.Targets(x, 0, 0, picking(n), api.Step{}, c.picks); len(l) != 0 {
+				t.Errorf("%d: Targets(%v) of Pick %d = %v", i, c.picks, n, l)
 			}
 		}
 	}
 	self := api.Effect{Pick: 1, Sel: api.Sel{Side: api.Self, Zone: api.Row}}
 	if l := aim.Targets(x, 0, 2, self, api.Step{}, []int{4, 2}); !slices.Equal(l, []int{2}) {
 		t.Errorf("Targets of self = %v", l)
+	}
+	self.Pick = 0
+	if l := aim.Targets(x, 0, 2, self, api.Step{}, []int{4, 2}); len(l) != 0 {
+		t.Errorf("Targets of self, of Pick 0 = %v", l)
 	}
 }
 
@@ -234,7 +243,7 @@ func TestTargetsOfAll(t *testing.T) {
 		{0, -1, api.Sel{Side: api.Any, Zone: api.Row}, nil},
 	} {
 		for _, picks := range [][]int{nil, {4}, {0, 5, 9}, {-1, 99}} {
-			for _, e := range []api.Effect{{}, picking(1), picking(-1)} {
+			for _, e := range []api.Effect{{}, picking(1), picking(0), picking(-1)} {
 				l := aim.Targets(x, c.who, c.id, e, api.Step{All: true, Sel: c.sel}, picks)
 				if !slices.Equal(l, c.want) {
 					t.Errorf("%d: Targets = %v; not %v", i, l, c.want)

@@ -10,16 +10,16 @@ import (
 	"joust/eval"
 )
 
-// pickable is a second reading: may this piece be picked, whatever the number of picks?
-func pickable(x api.Table, who uint8, id int, sel api.Sel, piece int) bool {
-	return slices.Contains(eval.Count(x, who, id, sel), piece) && (piece != id || sel.Side == api.Self)
+// pickable is a second reading: may this piece be picked?
+func pickable(x api.Table, who uint8, id int, e api.Effect, piece int) bool {
+	return e.Pick > 0 && slices.Contains(eval.Count(x, who, id, e.Sel), piece) && (piece != id || e.Sel.Side == api.Self)
 }
 
 // targets is a second reading of Targets: the places of each are its first ones.
 func targets(x api.Table, who uint8, id int, e api.Effect, picks []int) []int {
 	var l []int
 	for i, piece := range picks {
-		if slices.Index(picks, piece) == i && pickable(x, who, id, e.Sel, piece) {
+		if slices.Index(picks, piece) == i && pickable(x, who, id, e, piece) {
 			l = append(l, piece)
 		}
 	}
@@ -44,7 +44,7 @@ func TestLots(t *testing.T) {
 			}
 		}
 		for piece := -1; piece <= len(x.Pieces); piece++ {
-			if want := e.Pick > 0 && pickable(x, who, id, sel, piece); slices.Contains(cards, piece) != want {
+			if want := pickable(x, who, id, e, piece); slices.Contains(cards, piece) != want {
 				t.Fatalf("Cards(%d, %d, %+v) = %v", who, id, e, cards)
 			}
 		}
