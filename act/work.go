@@ -5,6 +5,7 @@ import (
 
 	"joust/api"
 	"joust/board"
+	"joust/cards"
 )
 
 // none is the piece of what happened to a player.
@@ -25,17 +26,8 @@ type work struct {
 // begin leaves out of the table that pieces are moved on what each move would copy anew, and none asks about.
 func begin(t api.Table) *work {
 	was := board.Copy(t)
-	now := board.Copy(api.Table{Kinds: bare(t.Kinds), Pieces: t.Pieces, Life: t.Life, Turn: t.Turn, Player: t.Player, Moment: t.Moment, Lost: t.Lost})
+	now := board.Copy(api.Table{Kinds: cards.Bare(t.Kinds), Pieces: t.Pieces, Life: t.Life, Turn: t.Turn, Player: t.Player, Moment: t.Moment, Lost: t.Lost})
 	return &work{was: was, now: now}
-}
-
-// bare is of each kind what kind it is, alone.
-func bare(kinds []api.Card) []api.Card {
-	l := make([]api.Card, len(kinds))
-	for i, c := range kinds {
-		l[i].Kind = c.Kind
-	}
-	return l
 }
 
 // end is the table behind the step, and whether that did something: what happened did at one moment.

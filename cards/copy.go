@@ -12,6 +12,15 @@ func Copy(l []api.Card) []api.Card {
 	return l
 }
 
+// Bare is of each card what kind it is, alone: all that moves of pieces ask about, which would copy the rest anew each.
+func Bare(l []api.Card) []api.Card {
+	bare := make([]api.Card, len(l))
+	for i, c := range l {
+		bare[i].Kind = c.Kind
+	}
+	return bare
+}
+
 func copyEffects(l []api.Effect) []api.Effect {
 	l = fresh(l)
 	for i := range l {

@@ -217,3 +217,14 @@ func TestCopyOfDepth(t *testing.T) {
 		}
 	}
 }
+
+// Bare tells of each card what kind it is, and nothing else of it.
+func TestBare(t *testing.T) {
+	l := []api.Card{{Name: "a", Kind: api.Trap, Effects: make([]api.Effect, 1)}, {Level: 1, Attack: 2, Guard: 3}, {Kind: 99}}
+	if bare := cards.Bare(l); !cards.Same(bare, []api.Card{{Kind: api.Trap}, {}, {Kind: 99}}) {
+		t.Errorf("Bare = %+v", bare)
+	}
+	if bare := cards.Bare(nil); len(bare) != 0 {
+		t.Errorf("Bare = %+v", bare)
+	}
+}
