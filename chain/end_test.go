@@ -111,7 +111,7 @@ func TestNegatesLink(t *testing.T) {
 	ends(t, "of the same one's", x, []api.Link{of(0, rain), of(0, twice)}, [2]int{8000, 5000}, 2, false, was, rain, twice)
 	ends(t, "ahead of it", x, []api.Link{of(0, twice), of(0, rain)}, [2]int{8010, 4900}, 4, false, was, twice, rain)
 	ends(t, "of one that is Dead", x, []api.Link{of(0, rain), dead(of(0, net)), of(0, twice)}, [2]int{8010, 4900}, 4, false, was, rain, net, twice)
-	ends(t, "of one that does nothing", x, []api.Link{of(0, rain), of(9, net), of(0, twice)}, [2]int{8010, 4900}, 4, false, was, rain, net, twice)
+	ends(t, "of one that does nothing", x, []api.Link{of(0, rain), of(9, net), of(0, twice)}, [2]int{8010, 4900}, 4, false, was, rain, twice)
 	trigger := api.Link{Piece: twice, Effect: 1}
 	ends(t, "of a trigger", x, []api.Link{of(0, rain), trigger}, [2]int{8000, 5000}, 1, false, was, rain)
 	chained := []api.Link{of(0, net), of(0, twice), of(0, twice), of(0, twice)}
@@ -204,9 +204,23 @@ func TestLinksOfNothing(t *testing.T) {
 		}
 		ends(t, "with another one", x, []api.Link{l, of(0, rain), l}, [2]int{8010, 4900}, 2, false, was, rain)
 	}
+}
+
+// P14.2: links of no player do nothing: no step of theirs is done, and their piece goes nowhere because of them, but because of a link of a player.
+func TestLinksOfNoPlayer(t *testing.T) {
+	x := shown(t)
+	const was = many + 1
 	for who := 2; who < 256; who++ {
 		for def := rain; def < many; def++ {
-			ends(t, "of no player", x, []api.Link{of(0, knight), of(uint8(who), def)}, [2]int{8000, 4000}, 1, false, was, def)
+			l := of(uint8(who), def)
+			for _, links := range [][]api.Link{{l}, {dead(l)}, {l, l}, {l, of(0, -1)}} {
+				y, negated := chain.End(x, links)
+				if negated || !board.Same(x, y) {
+					t.Errorf("%d of %d: %+v, %v", def, who, y, negated)
+				}
+			}
+			ends(t, "of no player", x, []api.Link{of(0, knight), l}, [2]int{8000, 4000}, 1, false, was)
+			ends(t, "Dead, of a player, too", x, []api.Link{l, dead(of(1, def)), l}, [2]int{8000, 5000}, 0, false, was, def)
 		}
 	}
 }

@@ -166,7 +166,7 @@ func (r *reading) end(l []api.Link) bool {
 	}
 	for _, x := range l {
 		p := r.x.Pieces[x.Piece]
-		if effects := r.x.Kinds[p.Def].Effects; x.Effect < len(effects) && effects[x.Effect].Mode == api.Play && p.Zone == api.Back && p.Up {
+		if effects := r.x.Kinds[p.Def].Effects; x.Who < 2 && x.Effect < len(effects) && effects[x.Effect].Mode == api.Play && p.Zone == api.Back && p.Up {
 			r.put(x.Piece, api.Grave)
 		}
 	}

@@ -28,8 +28,8 @@ func (u *undoing) all(l []api.Link) {
 }
 
 func (u *undoing) link(place int, link api.Link) {
-	e, ok := find(u.table, link.Piece, link.Effect)
-	if !ok || link.Who > 1 || link.Dead || place == u.dead {
+	e, ok := u.effect(link)
+	if !ok || link.Dead || place == u.dead {
 		return
 	}
 	for _, s := range e.Steps {
@@ -39,6 +39,14 @@ func (u *undoing) link(place int, link api.Link) {
 			u.table, _ = act.Do(u.table, link.Who, link.Piece, e, s, link.Picks)
 		}
 	}
+}
+
+// effect is the one of a link; a link of no player has none.
+func (u *undoing) effect(link api.Link) (api.Effect, bool) {
+	if link.Who > 1 {
+		return api.Effect{}, false
+	}
+	return find(u.table, link.Piece, link.Effect)
 }
 
 // negate needs to note one link alone, as the next one that is gone to is the one right ahead. Ahead of the first one is none.
@@ -55,7 +63,7 @@ func (u *undoing) negate(place int, ev uint8) {
 // clear puts the cards that were played away.
 func (u *undoing) clear(l []api.Link) {
 	for _, link := range l {
-		e, ok := find(u.table, link.Piece, link.Effect)
+		e, ok := u.effect(link)
 		if ok && e.Mode == api.Play && isShown(u.table.Pieces[link.Piece]) {
 			u.table = bury(u.table, link.Piece)
 		}
